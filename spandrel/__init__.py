@@ -1,0 +1,1 @@
+"""Spandrel: demands on machines, joined, put side by side and divided."""
