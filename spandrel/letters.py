@@ -1,6 +1,6 @@
 """Letters, sets of letters, and words."""
 
-from spandrel.errors import BadLetters, BadWord
+from spandrel.errors import BadLetters, BadSet, BadWord
 
 MOST_LETTERS = 5
 LONGEST_WORD = 200
@@ -19,6 +19,11 @@ def bits_of(letters):
     return bits
 
 
+def full_set(n):
+    """Tells the set of all letters, which is the largest of the sets."""
+    return bits_of(list(range(n)))
+
+
 def is_number(thing):
     """Tells whether a thing is a whole number."""
     # Python counts True and False among the integers; the document does not.
@@ -35,13 +40,26 @@ def is_letter_count(thing):
     return is_below(thing, MOST_LETTERS + 1)
 
 
+def is_set(n, thing):
+    """Tells whether a thing is a set of n letters."""
+    return is_below(thing, full_set(n) + 1)
+
+
+def is_word(n, thing):
+    """Tells whether a thing is a word of n letters, of any length."""
+    return isinstance(thing, tuple) and all([is_below(letter, n) for letter in thing])
+
+
 def check_word(n, word):
     """Raises BadWord unless a thing is a word of n letters that may be handed in."""
-    if not isinstance(word, tuple) or len(word) > LONGEST_WORD:
+    if not is_word(n, word) or len(word) > LONGEST_WORD:
         raise BadWord()
-    for letter in word:
-        if not is_below(letter, n):
-            raise BadWord()
+
+
+def check_set(n, bits):
+    """Raises BadSet unless a thing is a set of n letters."""
+    if not is_set(n, bits):
+        raise BadSet()
 
 
 def check_same_letters(a, b):

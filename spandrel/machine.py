@@ -19,17 +19,31 @@ def offers(m, state):
     check_machine(m)
     if not is_below(state, len(m[1])):
         raise BadState()
-    return bits_of([edge[0] for edge in m[1][state]])
+    return offered(m[1][state])
+
+
+def offered(row):
+    """Tells the set of the letters of a row's edges."""
+    return bits_of([edge[0] for edge in row])
 
 
 def led(m, word):
     """Tells the rising list of the states to which a word leads."""
     check_machine(m)
     check_word(m[0], word)
-    states = [0]
+    return states_behind(m[1], word)
+
+
+def states_behind(rows, word):
+    """Tells the rising list of the states to which a word of any length leads."""
+    # The words of papers may be very long, and come to the same states again and again.
+    known = {}
+    states = (0,)
     for letter in word:
-        states = _step(m[1], states, letter)
-    return states
+        if (letter, states) not in known:
+            known[(letter, states)] = _step(rows, states, letter)
+        states = known[(letter, states)]
+    return list(states)
 
 
 def product(a, b):
@@ -113,8 +127,8 @@ def _is_edge(n, many, edge):
 
 
 def _step(rows, states, letter):
-    """Tells the rising list of the states to which a letter leads from the given ones."""
-    return sorted({edge[1] for state in states for edge in rows[state] if edge[0] == letter})
+    """Tells the rising tuple of the states to which a letter leads from the given ones."""
+    return tuple(sorted({edge[1] for state in states for edge in rows[state] if edge[0] == letter}))
 
 
 def _edges_of_both(row, other):

@@ -8,6 +8,10 @@ ARGUMENTS = {
     "letters": {"members": ["n", "bits"], "bits_of": ["letters"]},
     "machine": {"check_machine": ["m"], "offers": ["m", "state"], "led": ["m", "word"],
                 "product": ["a", "b"], "pairs_of": ["a", "b"], "alike": ["a", "b"]},
+    "demand": {"check_demand": ["d"], "led_to": ["d", "word"], "anything": ["n"], "nothing": ["n"], "only": ["m"]},
+    "keeping": {"keeps": ["m", "d"], "is_kept": ["m", "d", "paper"]},
+    "hollow": {"hollow": ["d"], "is_ladder": ["d", "states"], "ladder": ["d"], "trimmed": ["d"], "some": ["d"],
+               "with_word": ["d", "word", "bits"]},
 }
 ERRORS = ("SpandrelError", "BadMachine", "BadDemand", "BadLetters", "BadWord", "BadSet", "BadState",
           "BadText", "TooMuch")

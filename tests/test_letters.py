@@ -3,8 +3,8 @@
 import itertools
 import unittest
 
-from spandrel.errors import BadLetters, BadWord
-from spandrel.letters import bits_of, check_same_letters, check_word, members
+from spandrel.errors import BadLetters, BadSet, BadWord
+from spandrel.letters import bits_of, check_same_letters, check_set, check_word, full_set, is_word, members
 from tests.samples import NO_NUMBERS
 
 
@@ -82,6 +82,29 @@ class Words(unittest.TestCase):
             for thing in NO_NUMBERS + (-1, n, n + 1, 10 ** 30):
                 with self.subTest(repr(thing), n=n):
                     self.assertRaises(BadWord, check_word, n, (thing,))
+
+
+    def test_words_of_papers_may_be_longer(self):
+        for n in range(1, 6):
+            for length in (0, 200, 201, 5000):
+                self.assertIs(is_word(n, (n - 1,) * length), True)
+                self.assertIs(is_word(n, (0,) * length + (n,)), False)
+                self.assertIs(is_word(n, (0,) * length + (True,)), False)
+        self.assertIs(is_word(1, [0]), False)
+
+
+class GivenSets(unittest.TestCase):
+    def test_sets(self):
+        for n in range(6):
+            self.assertEqual(full_set(n), 2 ** n - 1)
+            for bits in range(2 ** n):
+                self.assertIsNone(check_set(n, bits))
+
+    def test_what_is_no_set(self):
+        for n in range(6):
+            for thing in NO_NUMBERS + (-1, 2 ** n, 2 ** n + 1, 32, 10 ** 30):
+                with self.subTest(repr(thing), n=n):
+                    self.assertRaises(BadSet, check_set, n, thing)
 
 
 class SameLetters(unittest.TestCase):
