@@ -1,7 +1,7 @@
 """Demands: what they are, where words lead in them, and the plainest ones."""
 
 from spandrel.errors import BadDemand, TooMuch
-from spandrel.letters import check_word, full_set, is_letter_count, is_number, is_set, members
+from spandrel.letters import check_same_letters, check_word, full_set, is_letter_count, is_number, is_set, members
 from spandrel.machine import check_machine, offered
 from spandrel.numbering import found_states, renumbered
 
@@ -12,6 +12,13 @@ def check_demand(d):
     """Raises BadDemand unless a thing is a demand within the bounds."""
     if not _is_demand(d):
         raise BadDemand()
+
+
+def check_two_demands(a, b):
+    """Refuses two demands that are none, or that do not belong together."""
+    check_demand(a)
+    check_demand(b)
+    check_same_letters(a, b)
 
 
 def led_to(d, word):

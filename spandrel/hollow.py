@@ -1,14 +1,14 @@
 """What cannot be kept: hollow states, ladders, trimmed demands, and machines that keep a demand."""
 
-from spandrel.demand import check_demand, nothing
-from spandrel.letters import bits_of, check_set, check_word, is_below, members
-from spandrel.numbering import found_states, renumbered
+from spandrel.demand import check_demand
+from spandrel.letters import check_set, check_word, is_below, members
+from spandrel.trimming import rungs, standing_sets, trimmed_states
 
 
 def hollow(d):
     """Tells the rising list of the states from which on no machine keeps the demand."""
     check_demand(d)
-    return sorted(_rungs(d[1]))
+    return sorted(rungs(d[1]))
 
 
 def is_ladder(d, states):
@@ -27,20 +27,13 @@ def is_ladder(d, states):
 def ladder(d):
     """Tells a ladder of all hollow states."""
     check_demand(d)
-    return tuple(_rungs(d[1]))
+    return tuple(rungs(d[1]))
 
 
 def trimmed(d):
     """Tells the demand without all that cannot be kept."""
     check_demand(d)
-    n, states = d
-    under = {at: True for at in _rungs(states)}
-    if 0 in under:
-        return nothing(n)
-    cut = [_cut(n, state, under) for state in states]
-    # No letter that is left leads to a hollow state, so these are not found.
-    reached = found_states([[to for to in ahead if to != -1] for _, ahead in cut])
-    return (n, renumbered(cut, reached))
+    return (d[0], trimmed_states(d[0], d[1]))
 
 
 def some(d):
@@ -74,33 +67,6 @@ def with_word(d, word, bits):
         return None
     rows.append(_row(n, bits, [to + behind for to in states[q][1]]))
     return (n, tuple(rows + _first_rows(n, states, behind)))
-
-
-def standing_sets(state, under):
-    """Tells the list of a state's accepted sets that do not fall under the given states."""
-    accepts, ahead = state
-    falling = bits_of([letter for letter, to in enumerate(ahead) if to in under])
-    return [bits for bits in accepts if not bits & falling]
-
-
-def _rungs(states):
-    """Tells the list of the hollow states, in an order in which they are a ladder."""
-    under = {}
-    more = True
-    while more:
-        more = False
-        for at, state in enumerate(states):
-            if at not in under and not standing_sets(state, under):
-                under[at] = True
-                more = True
-    return list(under)
-
-
-def _cut(n, state, under):
-    """Tells a state with those of its sets alone that do not fall, and -1 for letters in none of them."""
-    standing = standing_sets(state, under)
-    left = [letter for bits in standing for letter in members(n, bits)]
-    return (tuple(standing), tuple([to if letter in left else -1 for letter, to in enumerate(state[1])]))
 
 
 def _first_rows(n, states, shift):

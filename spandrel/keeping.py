@@ -1,6 +1,7 @@
 """Whether a machine keeps a demand, with a paper that shows it, and the checker of such papers."""
 
 from spandrel.demand import check_demand, state_behind
+from spandrel.errors import BadLetters, BadMachine
 from spandrel.letters import check_same_letters, is_below, is_word
 from spandrel.machine import check_machine, offered, states_behind
 
@@ -21,7 +22,7 @@ def keeps(m, d):
         accepts, ahead = states[q]
         wrong = [p for p in ends if sets[p] not in accepts]
         if wrong:
-            return ("no", _word_of(came, at), min(wrong))
+            return ("no", word_of(came, at), min(wrong))
         for letter, to in enumerate(ahead):
             # Where to is -1, no state of the group has an edge, since q accepts what they offer.
             new = _new_ends(rows, ends, letter, to, seen)
@@ -44,6 +45,14 @@ def is_kept(m, d, paper):
     return False
 
 
+def is_keeper(thing, d):
+    """Tells whether a thing is a machine that keeps the demand."""
+    try:
+        return keeps(thing, d)[0] == "yes"
+    except (BadMachine, BadLetters):
+        return False
+
+
 def _check_both(m, d):
     """Refuses a machine or a demand that is none, and two that do not belong together."""
     check_machine(m)
@@ -62,8 +71,8 @@ def _new_ends(rows, ends, letter, q, seen):
     return new
 
 
-def _word_of(came, at):
-    """Tells the word of a group; came holds for each group the one before it, and the letter between."""
+def word_of(came, at):
+    """Tells the word by which a search came to a place; came holds for each the one before it, and the letter."""
     letters = []
     while at != 0:
         at, letter = came[at]

@@ -19,6 +19,14 @@ def bits_of(letters):
     return bits
 
 
+def together(sets):
+    """Tells the set of the letters that are in at least one of the given sets."""
+    bits = 0
+    for one in sets:
+        bits |= one
+    return bits
+
+
 def full_set(n):
     """Tells the set of all letters, which is the largest of the sets."""
     return bits_of(list(range(n)))

@@ -12,6 +12,12 @@ ARGUMENTS = {
     "keeping": {"keeps": ["m", "d"], "is_kept": ["m", "d", "paper"]},
     "hollow": {"hollow": ["d"], "is_ladder": ["d", "states"], "ladder": ["d"], "trimmed": ["d"], "some": ["d"],
                "with_word": ["d", "word", "bits"]},
+    "refining": {"refines": ["s", "t"], "takes": ["s", "t", "paper"], "equal": ["s", "t"], "least": ["d"]},
+    "joining": {"meet": ["a", "b"], "either": ["a", "b"], "beside": ["a", "b"], "parts": ["a", "b", "word", "bits"]},
+    "dividing": {"divided": ["t", "s"], "completes": ["x", "s", "t"], "accepts": ["x", "s", "t", "paper"],
+                 "missing": ["t", "s"]},
+    "writing": {"written_machine": ["m"], "written_demand": ["d"], "read_machine": ["text"],
+                "read_demand": ["text"]},
 }
 ERRORS = ("SpandrelError", "BadMachine", "BadDemand", "BadLetters", "BadWord", "BadSet", "BadState",
           "BadText", "TooMuch")
