@@ -1,6 +1,5 @@
 """What falls, what is hollow, and what is left of it, in demands with any number of states."""
 
-from spandrel.demand import nothing
 from spandrel.letters import bits_of, members, together
 from spandrel.numbering import found_only
 
@@ -29,9 +28,8 @@ def rungs(states):
 def trimmed_states(n, states):
     """Tells the states of the trimmed demand."""
     under = {at: True for at in rungs(states)}
-    if 0 in under:
-        return nothing(n)[1]
-    # No letter that is left leads to a hollow state, so these are not found.
+    # No letter that is left leads to a hollow state, so these are not found. And if state 0 is hollow,
+    # none of its sets is left, which makes it nothing.
     return found_only([_cut(n, state, under) for state in states])
 
 

@@ -541,7 +541,8 @@ class OtherPapers(Case):
             self.assertIs(accepts(x, s, t, paper), False)
 
     def test_what_is_no_tuple(self):
-        for paper in ("", "yes", "no", "yes()", 0, 1, None, True, False, ["yes", (), ((0, 0, 0),)], ["no", ring(1), ()]):
+        for paper in ("", "yes", "no", "yes()", 0, 1, None, True, False, ["yes", (), ((0, 0, 0),)],
+                      ["no", ring(1), ()]):
             for t in (anything(1), nothing(1)):
                 self.assertIs(accepts(ring(1), anything(1), t, paper), False)
 

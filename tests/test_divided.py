@@ -107,10 +107,11 @@ class Named(Case):
         s = (2, (((1,), (1, -1)), ((3,), (1, 1))))
         told = self.of(s, s)
         self.assertEqual(told, (2, (((1, 3), (1, 2)), ((3,), (1, 1)), ((0, 1, 2, 3), (2, 2)))))
-        for x, answer in (((2, (((0, 1),), ((0, 1), (1, 1)))), "yes"), ((2, (((0, 1), (1, 2)), ((0, 1), (1, 1)), ())), "yes"),
-                          ((2, (((0, 1), (1, 2)), ((0, 1),), ())), "no"), ((2, (((1, 0),),)), "no")):
-            self.assertEqual(keeps(x, told)[0], answer)
-            self.assertEqual(keeps(product(x, s_machine()), s)[0], answer)
+        other = (2, (((0, 1),), ((0, 1), (1, 1))))
+        for rows, answer in ((other[1], "yes"), ((((0, 1), (1, 2)), ((0, 1), (1, 1)), ()), "yes"),
+                             ((((0, 1), (1, 2)), ((0, 1),), ()), "no"), ((((1, 0),),), "no")):
+            self.assertEqual(keeps((2, rows), told)[0], answer)
+            self.assertEqual(keeps(product((2, rows), other), s)[0], answer)
 
     def test_for_every_machine(self):
         # s may offer the letter or not; so what the whole offers is not settled, and t wants it settled.
@@ -139,10 +140,6 @@ class Named(Case):
                 s = (5, (((given,), (0,) * 5),))
                 told = self.of(t, s)
                 self.assertEqual(told[1][0][0], tuple(bits for bits in every_set(5) if bits & given != left_out))
-
-
-def s_machine():
-    return (2, (((0, 1),), ((0, 1), (1, 1))))
 
 
 class Bounds(Case):

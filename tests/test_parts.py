@@ -50,9 +50,9 @@ class Named(Case):
 
     def test_sets_that_come_out_of_two(self):
         a, b = (3, (((3, 6), (0, 0, 0)),)), (3, (((5, 6), (0, 0, 0)),))
-        for word, told in (((), (1, 2, 4, 6)), ((0,), (1, 2, 4, 6)), ((2, 1, 0), (1, 2, 4, 6)), ((1,) * 200, (1, 2, 4, 6))):
+        for word in ((), (0,), (2, 1, 0), (1,) * 200):
             for bits in every_set(3):
-                self.of(a, b, word, bits, bits in told)
+                self.of(a, b, word, bits, bits in (1, 2, 4, 6))
 
     def test_words_of_one_demand_alone(self):
         a, b = (2, (((1, 3), (0, 0)),)), (2, (((1,), (0, -1)),))

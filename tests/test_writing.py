@@ -158,7 +158,8 @@ class Machines(Case):
 
     def test_blanks_and_line_feeds(self):
         for text in (MACHINE_TEXT, "machine 0\n0:", "machine 5\n0: e0"):
-            for more in (" ", "\n", "\n\n", "  ", "\t", "\r", "\r\n", "\v", "\f", "\x1c", "\x85", "\u2028", "\x00", "0", "0:"):
+            for more in (" ", "\n", "\n\n", "  ", "\t", "\r", "\r\n", "\v", "\f", "\x1c", "\x85", "\u2028", "\x00",
+                         "0", "0:"):
                 self.no_machine(text + more)
                 self.no_machine(more + text)
                 for at, sign in enumerate(text):
@@ -211,7 +212,8 @@ class Machines(Case):
                      "machine a", "machine 2:", "nothing 2"):
             self.no_machine(f"{head}\n0: a0 b1\n1:")
         for text in ("", "\n", " ", "0:", "machine 2", "machine 2\n", "machine 2\n\n", "machine 2 0:", "machine 2\n0",
-                     "machine 2\n1:", "machine 2\n:", "machine 2\n0 :", "machine 2\n0;", "machine 2\n0: ", "machine 2\n0:a0"):
+                     "machine 2\n1:", "machine 2\n:", "machine 2\n0 :", "machine 2\n0;", "machine 2\n0: ",
+                     "machine 2\n0:a0"):
             self.no_machine(text)
 
     def test_more_than_the_bounds(self):
@@ -302,16 +304,17 @@ class Demands(Case):
                 self.no_demand("\n".join(lines[:at] + lines[at + 1:]))
 
     def test_sets(self):
-        for sets in ("{a} {}", "{a} {a}", "{} {}", "{ab} {b}", "{b} {a}", "{ba}", "{aa}", "{a", "a}", "a", "{a b}", "{ }", "()",
-                     "{a}{b}", "{a},", "{{a}}", "{A}", "{0}", "{c}", "{f}", "[a]", "{a,b}", "{a}  {b}", "{", "}", "{}}", "{}a", "}{",
-                     "xax", "|", "{|}", "{a} |", "| {a}"):
+        for sets in ("{a} {}", "{a} {a}", "{} {}", "{ab} {b}", "{b} {a}", "{ba}", "{aa}", "{a", "a}", "a", "{a b}",
+                     "{ }", "()", "{a}{b}", "{a},", "{{a}}", "{A}", "{0}", "{c}", "{f}", "[a]", "{a,b}", "{a}  {b}",
+                     "{", "}", "{}}", "{}a", "}{", "xax", "|", "{|}", "{a} |", "| {a}"):
             self.no_demand(f"demand 2\n0: {sets} | a0 b0")
         for sets in ("{}", "{a}", "{b}", "{ab}", "{} {a} {b} {ab}", "{a} {ab}"):
             self.demand(read_demand(f"demand 2\n0: {sets} | a0 b0"))
 
     def test_ends(self):
-        for ends in ("b0 a0", "a0 a0", "a0 a1", "a1", "a2 b0", "b0", "a0", "a0  b0", "a0 b0 ", " a0 b0", "a0 b0 c0", "a b0", "0 b0",
-                     "a0 b-1", "a-1 b0", "a0,b0", "a0b0", "A0 b0", "a00 b0", "a0 b01", "{a} b0", "a0 | b0", "a0 b0 |", "|"):
+        for ends in ("b0 a0", "a0 a0", "a0 a1", "a1", "a2 b0", "b0", "a0", "a0  b0", "a0 b0 ", " a0 b0", "a0 b0 c0",
+                     "a b0", "0 b0", "a0 b-1", "a-1 b0", "a0,b0", "a0b0", "A0 b0", "a00 b0", "a0 b01", "{a} b0",
+                     "a0 | b0", "a0 b0 |", "|"):
             self.no_demand(f"demand 2\n0: {{ab}} | {ends}")
         self.assertEqual(read_demand("demand 2\n0: | b0"), (2, (((), (-1, 0)),)))
         self.assertEqual(read_demand("demand 2\n0: {a} | a0"), (2, (((1,), (0, -1)),)))
@@ -319,14 +322,15 @@ class Demands(Case):
         self.no_demand("demand 2\n0: {a} |")
 
     def test_bars(self):
-        for line in ("0:", "0: ", "0: {}", "0: {} ", "0:|", "0: | ", "0:  |", "0: ||", "0: | |", "0: {}|", "0: {} |a0", "0 : |",
-                     "0: {} / a0", "0: {} I a0", "|", ": |", "0 |"):
+        for line in ("0:", "0: ", "0: {}", "0: {} ", "0:|", "0: | ", "0:  |", "0: ||", "0: | |", "0: {}|",
+                     "0: {} |a0", "0 : |", "0: {} / a0", "0: {} I a0", "|", ": |", "0 |"):
             self.no_demand(f"demand 1\n{line}")
         self.assertEqual(read_demand("demand 1\n0: |"), nothing(1))
 
     def test_blanks_and_line_feeds(self):
         for text in (DEMAND_TEXT, "demand 0\n0: |", "demand 5\n0: {e} | e0"):
-            for more in (" ", "\n", "\n\n", "  ", "\t", "\r", "\r\n", "\v", "\f", "\x1c", "\x85", "\u2028", "\x00", "0", "0: |"):
+            for more in (" ", "\n", "\n\n", "  ", "\t", "\r", "\r\n", "\v", "\f", "\x1c", "\x85", "\u2028", "\x00",
+                         "0", "0: |"):
                 self.no_demand(text + more)
                 self.no_demand(more + text)
 
@@ -340,7 +344,8 @@ class Demands(Case):
                 self.no_demand(f"demand {number}\n0: {{}} {{ab}} | a0 b1\n1: |")
         for n in ("0", "1", "6", "7", "10", "12", "05"):
             self.no_demand(f"demand {n}\n0: {{}} {{ab}} | a0 b1\n1: |")
-        self.assertEqual(read_demand("demand 3\n0: {} {ab} | a0 b1\n1: |"), (3, (((0, 3), (0, 1, -1)), ((), (-1,) * 3))))
+        self.assertEqual(read_demand("demand 3\n0: {} {ab} | a0 b1\n1: |"),
+                         (3, (((0, 3), (0, 1, -1)), ((), (-1, -1, -1)))))
 
     def test_numbers_of_many_figures(self):
         for many in (2, 3, 4, 5, 20, 4299, 4300, 4301, 5000, 100000):
@@ -352,10 +357,12 @@ class Demands(Case):
                 self.no_demand(f"demand 1\n0: {{a}} | a{number}")
 
     def test_other_heads(self):
-        for head in ("", "demand", "demand ", "Demand 2", "DEMAND 2", "demands 2", "demand  2", " demand 2", "demand 2 ",
+        for head in ("", "demand", "demand ", "Demand 2", "DEMAND 2", "demands 2", "demand  2", " demand 2",
+                     "demand 2 ",
                      "demand2", "demand\t2", "demand 2 2", "machine 2", "2 demand", "demand: 2", "2", "demand a"):
             self.no_demand(f"{head}\n0: {{}} {{ab}} | a0 b1\n1: |")
-        for text in ("", "\n", " ", "0: |", "demand 2", "demand 2\n", "demand 2\n\n", "demand 2 0: |", "demand 2\n1: |"):
+        for text in ("", "\n", " ", "0: |", "demand 2", "demand 2\n", "demand 2\n\n", "demand 2 0: |",
+                     "demand 2\n1: |"):
             self.no_demand(text)
 
     def test_more_than_the_bounds(self):
@@ -390,7 +397,8 @@ class OtherTexts(Case):
 
     def test_whatever_is_read_is_written_as_the_same(self):
         numbers = random.Random(103)
-        words = ["machine", "demand", " ", "\n", "0", "1", "2", "3", "0:", "1:", "a0", "b1", "{}", "{a}", "|", " a0", "\n0:", "\n1: |"]
+        words = ["machine", "demand", " ", "\n", "0", "1", "2", "3", "0:", "1:", "a0", "b1", "{}", "{a}", "|", " a0",
+                 "\n0:", "\n1: |"]
         for _ in range(5000):
             text = numbers.choice(("machine 2\n0:", "demand 2\n0:", "")) + "".join(
                 numbers.choice(words) for _ in range(numbers.randrange(6)))
